@@ -79,7 +79,9 @@ func TestProofsOfListsShowNoClash(t *testing.T) {
 				check("another proof", impl.ErrState, list[i], wrong)
 				check("another proof of another leaf", impl.ErrState, flipped(list[i], i), wrong)
 			}
-			check("a long proof", impl.ErrState, list[i], make([]impl.Key, impl.MaxLeaves+1))
+			check("a proof of MaxLeaves keys", impl.ErrState, list[i], make([]impl.Key, impl.MaxLeaves))
+			check("a longer proof", impl.ErrLimit, list[i], make([]impl.Key, impl.MaxLeaves+1))
+			check("a longer proof of another leaf", impl.ErrLimit, flipped(list[i], i), make([]impl.Key, impl.MaxLeaves+1))
 		}
 	}
 }
@@ -90,12 +92,16 @@ func TestProofsAreRefusedForClashes(t *testing.T) {
 	for _, i := range append(farNumbers(), 5, 6, impl.MaxLeaves) {
 		isNoClash(t, "i", impl.ErrRange)(impl.ClashOfProof(long[:5], i, long[2], proof))
 		isNoClash(t, "i and no proof", impl.ErrRange)(impl.ClashOfProof(long[:5], i, long[2], nil))
+		isNoClash(t, "i and a proof of MaxLeaves keys", impl.ErrRange)(impl.ClashOfProof(long[:5], i, long[2], long[:impl.MaxLeaves]))
+		isNoClash(t, "i and a longer proof", impl.ErrLimit)(impl.ClashOfProof(long[:5], i, long[2], long))
 		isNoClash(t, "i of too many leaves", impl.ErrLimit)(impl.ClashOfProof(long, i, long[2], proof))
 	}
 	for _, i := range append(farNumbers(), 0, 1) {
 		isNoClash(t, "no leaves", impl.ErrRange)(impl.ClashOfProof(nil, i, impl.Key{}, nil))
+		isNoClash(t, "no leaves and a long proof", impl.ErrLimit)(impl.ClashOfProof(nil, i, impl.Key{}, long))
 	}
 	isNoClash(t, "too many leaves", impl.ErrLimit)(impl.ClashOfProof(long, 2, long[2], proof))
+	isNoClash(t, "too many leaves and a long proof", impl.ErrLimit)(impl.ClashOfProof(long, 2, long[2], long))
 	isNoClash(t, "one leaf", impl.ErrNotFound)(impl.ClashOfProof(long[:1], 0, long[0], nil))
 	isNoClash(t, "one leaf, another one", impl.ErrState)(impl.ClashOfProof(long[:1], 0, long[1], nil))
 	isNoClash(t, "one leaf, with a key", impl.ErrState)(impl.ClashOfProof(long[:1], 0, long[0], long[:1]))

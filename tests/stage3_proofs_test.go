@@ -153,14 +153,36 @@ func TestChecksOfProofsAreRefused(t *testing.T) {
 	isTold(t, "one leaf, with a key", false)(impl.CheckProof(list[0], 1, 0, list[0], []impl.Key{{}}))
 }
 
-// The document has a limit for the proofs of ranges and of growth, but none for these.
 func TestLongProofsAreNotAccepted(t *testing.T) {
-	list := leavesOf(316, impl.MaxLeaves+1)
+	list := leavesOf(316, impl.MaxLeaves)
 	root := plainListKey(list[:5])
 	proof := proofOf(t, list[:5], 2)
-	for _, n := range []int{len(proof) + 1, impl.MaxLeaves, impl.MaxLeaves + 1} {
+	for _, n := range []int{len(proof) + 1, impl.MaxLeaves - 1, impl.MaxLeaves} {
 		long := slices.Concat(proof, list)[:n]
 		isTold(t, numbered("a proof of many keys", n), false)(impl.CheckProof(root, 5, 2, list[2], long))
 		isRefused(t, numbered("a proof of many keys, and no such leaf", n), impl.ErrRange)(impl.CheckProof(root, 5, 5, list[2], long))
+		isRefused(t, numbered("a proof of many keys, and too many leaves", n), impl.ErrRange)(impl.CheckProof(root, impl.MaxLeaves+1, 2, list[2], long))
+	}
+}
+
+func TestProofsOverMaxLeavesAreRefused(t *testing.T) {
+	list := leavesOf(317, 2*impl.MaxLeaves)
+	proof := proofOf(t, list[:5], 2)
+	for _, length := range []int{impl.MaxLeaves + 1, impl.MaxLeaves + 2, 2 * impl.MaxLeaves} {
+		long := slices.Concat(proof, list)[:length]
+		check := func(name string, root impl.Key, n, i int64) {
+			t.Helper()
+			isRefused(t, numbered(name, length, int(n), int(i)), impl.ErrLimit)(impl.CheckProof(root, n, i, list[2], long))
+		}
+		check("a leaf", plainListKey(list[:5]), 5, 2)
+		check("one leaf", list[2], 1, 0)
+		check("the last of MaxLeaves", plainListKey(list[:impl.MaxLeaves]), impl.MaxLeaves, impl.MaxLeaves-1)
+		for _, n := range append(farNumbers(), 0, impl.MaxLeaves+1, int64(length)) {
+			check("n", impl.Key{}, n, 0)
+			check("n and i", impl.Key{}, n, n)
+		}
+		for _, i := range append(farNumbers(), 5, 6, impl.MaxLeaves) {
+			check("i", impl.Key{}, 5, i)
+		}
 	}
 }

@@ -102,7 +102,7 @@ func TestLargeArgumentsOfListsReturn(t *testing.T) {
 	_, code := impl.ListKey(keys)
 	same(t, "ListKey", code, impl.ErrLimit)
 	isError(t, "ProofOf", impl.ErrLimit)(impl.ProofOf(keys, 0))
-	isTold(t, "CheckProof", false)(impl.CheckProof(impl.Key{}, 5, 0, impl.Key{}, keys))
+	isRefused(t, "CheckProof", impl.ErrLimit)(impl.CheckProof(impl.Key{}, 5, 0, impl.Key{}, keys))
 	isError(t, "RangeProof", impl.ErrLimit)(impl.RangeProof(keys, 0, 1000000))
 	isRefused(t, "leaves of CheckRange", impl.ErrLimit)(impl.CheckRange(impl.Key{}, 1000000, 0, keys, nil))
 	isRefused(t, "proof of CheckRange", impl.ErrLimit)(impl.CheckRange(impl.Key{}, 5, 0, keys[:1], keys))
@@ -114,5 +114,5 @@ func TestLargeArgumentsOfListsReturn(t *testing.T) {
 	isRefused(t, "CheckGrowth", impl.ErrLimit)(impl.CheckGrowth(impl.Key{}, 1, impl.Key{}, 5, keys))
 	isNoClash(t, "ClashOf", impl.ErrLimit)(impl.ClashOf(keys, keys))
 	isNoClash(t, "list of ClashOfProof", impl.ErrLimit)(impl.ClashOfProof(keys, 0, impl.Key{}, nil))
-	isNoClash(t, "proof of ClashOfProof", impl.ErrState)(impl.ClashOfProof(keys[:5], 0, impl.Key{}, keys))
+	isNoClash(t, "proof of ClashOfProof", impl.ErrLimit)(impl.ClashOfProof(keys[:5], 0, impl.Key{}, keys))
 }

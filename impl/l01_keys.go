@@ -282,16 +282,24 @@ func onceEach(list []Key) []Key {
 	return once
 }
 
+// keyOrder compares two keys as the sorting functions want it.
+func keyOrder(a, b Key) int {
+	return int(CompareKeys(a, b))
+}
+
+// inOrder returns keys in ascending order, each once, however many there are.
+func inOrder(list []Key) []Key {
+	sorted := onceEach(list)
+	slices.SortFunc(sorted, keyOrder)
+	return sorted
+}
+
 // SortKeys returns keys in order.
 func SortKeys(list []Key) ([]Key, int64) {
 	if len(list) > MaxKeys {
 		return nil, ErrLimit
 	}
-	sorted := onceEach(list)
-	slices.SortFunc(sorted, func(a, b Key) int {
-		return int(CompareKeys(a, b))
-	})
-	return sorted, OK
+	return inOrder(list), OK
 }
 
 // FindKey returns the key with a prefix.

@@ -126,21 +126,21 @@ func TestAllShortListsOfOneReplica(t *testing.T) {
 func TestAllShortListsOfTwoReplicas(t *testing.T) {
 	v := setup(2, put(0, "x", "1"), put(1, "x", "2"), gone(1, "x"), put(0, "y", "1"))
 	alphabet := "write 0, write 1, write 2, write 3, send 0 1 0, send 1 0 0, send 0 1 1, deliver 0, copy 0, drop 0, deliver 1, merge 0 0, merge 0 1, merge 1 0, merge 1 1, save 0, save 1, crash 0, crash 1"
-	count := walkFrom(t, v, alphabet, "", 4)
+	count := walkFrom(t, v, alphabet, "", 5)
 	sent := "write 0, write 1, send 0 1 0, send 1 0 0"
 	count += walkFrom(t, v, alphabet, sent, 3)
 	count += walkFrom(t, v, alphabet+", merge 0 2, merge 1 2, send 1 0 2, send 0 1 2", sent+", deliver 0, deliver 0, merge 0 1", 3)
 	count += walkFrom(t, v, alphabet, "write 0, save 0, write 3, send 0 1 0, send 0 1 1, crash 0", 3)
-	same(t, "many lists are tried", count > 5000, true)
+	same(t, "many lists are tried", count > 30000, true)
 }
 
 func TestAllShortListsOfThreeReplicas(t *testing.T) {
 	v := setup(3, put(0, "x", "1"), put(1, "x", "2"), put(2, "y", "1"), gone(2, "x"))
 	alphabet := "write 0, write 1, write 2, write 3, send 0 1 0, send 1 2 0, send 2 0 0, send 0 2 0, deliver 0, copy 0, drop 0, deliver 1, merge 0 1, merge 1 0, merge 1 1, merge 2 1, merge 2 0, save 2, crash 0, crash 2"
-	count := walkFrom(t, v, alphabet, "", 3)
+	count := walkFrom(t, v, alphabet, "", 4)
 	count += walkFrom(t, v, alphabet, "write 0, write 1, write 2, send 0 1 0, send 1 2 0, send 2 0 0", 3)
 	count += walkFrom(t, v, alphabet+", send 1 2 2, merge 2 2, merge 2 3, deliver 2", "write 0, write 1, write 2, send 0 1 0, deliver 0, merge 1 1, send 1 2 0, send 1 2 1", 3)
-	same(t, "many lists are tried", count > 3000, true)
+	same(t, "many lists are tried", count > 5000, true)
 }
 
 // someEdits returns edits that look random, of few names and values.
